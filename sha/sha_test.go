@@ -3,6 +3,7 @@ package sha
 import (
 	"bytes"
 	"crypto/sha256"
+	"encoding/binary"
 	"encoding/hex"
 	"math"
 	"math/big"
@@ -336,6 +337,131 @@ func TestZeroHash(t *testing.T) {
 		if h.Len() != n+3 || h.Sum() != Sum(some(n), []byte("abc")) {
 			t.Errorf("a zero one lost some of %d bytes", n)
 		}
+	}
+}
+
+// digestFrom is the digest of so many bytes that are taken already, whole
+// blocks that made these words of theirs, and of those behind, in the words of
+// the chapter.
+func digestFrom(words [8]uint32, taken int, behind []byte) [32]byte {
+	b := append(bytes.Clone(behind), 128)
+	for len(b)%64 != 56 {
+		b = append(b, 0)
+	}
+	b = binary.BigEndian.AppendUint64(b, uint64(taken+len(behind))*8)
+	for ; len(b) > 0; b = b[64:] {
+		words = slowBlock(words, [64]byte(b))
+	}
+	var digest []byte
+	for _, w := range words {
+		digest = binary.BigEndian.AppendUint32(digest, w)
+	}
+	return [32]byte(digest)
+}
+
+// What digestFrom tells is held against another SHA-256, so that it may be
+// held against where no other one goes.
+func TestDigestFrom(t *testing.T) {
+	var first [8]uint32
+	for k := range first {
+		first[k] = Start(k)
+	}
+	for _, n := range edges() {
+		b := some(n)
+		if digestFrom(first, 0, b) != sha256.Sum256(b) {
+			t.Fatalf("%d bytes", n)
+		}
+	}
+}
+
+// laid is a hash that New made, whose blocks of so many bytes came to be these
+// words.
+func laid(words [8]uint32, taken int) *Hash {
+	h := New()
+	h.Write(some(taken))
+	h.words = words
+	return h
+}
+
+// wordsToComeTo is words of blocks that were taken that might be held for the
+// words of a hash that New did not make, or that has no bytes.
+func wordsToComeTo() [][8]uint32 {
+	return [][8]uint32{{}, New().words, {7: 1}}
+}
+
+// P2.2, P2.3: a hash that New made has what it has, whatever its words are.
+func TestAnyWords(t *testing.T) {
+	for _, words := range wordsToComeTo() {
+		for _, taken := range []int{64, 128, 640} {
+			h := laid(words, taken)
+			want := digestFrom(words, taken, nil)
+			if h.Len() != taken || h.Sum() != want || h.Sum() != want || h.Len() != taken {
+				t.Errorf("%08x behind %d bytes: Len %d, Sum %x, want %x", words, taken, h.Len(), h.Sum(), want)
+			}
+			h.Write(nil)
+			h.Write([]byte{})
+			if h.Len() != taken || h.Sum() != want {
+				t.Errorf("%08x behind %d bytes: no bytes change it", words, taken)
+			}
+		}
+	}
+}
+
+// P2.3: Copy of a hash that New made, whatever its words are.
+func TestCopyAnyWords(t *testing.T) {
+	for _, words := range wordsToComeTo() {
+		h := laid(words, 64)
+		c := h.Copy()
+		if c == nil || c == h || c.Len() != 64 || c.Sum() != digestFrom(words, 64, nil) {
+			t.Fatalf("%08x: the copy has others", words)
+		}
+		c.Write([]byte("this way"))
+		if h.Len() != 64 || h.Sum() != digestFrom(words, 64, nil) {
+			t.Errorf("%08x: the copy's way is the first one's", words)
+		}
+		h.Write([]byte("that way, which is longer"))
+		if c.Len() != 72 || c.Sum() != digestFrom(words, 64, []byte("this way")) {
+			t.Errorf("%08x: the first one's way is the copy's", words)
+		}
+	}
+}
+
+// P2.3, P2.4: what is written behind any words, in one piece and in two.
+func TestWriteBehindAnyWords(t *testing.T) {
+	for _, words := range wordsToComeTo() {
+		for _, n := range edges() {
+			b := some(n)
+			want := digestFrom(words, 64, b)
+			for _, cut := range []int{0, n / 2, n} {
+				h := laid(words, 64)
+				h.Write(b[:cut])
+				h.Write(b[cut:])
+				if h.Len() != 64+n || h.Sum() != want {
+					t.Fatalf("%08x, %d bytes behind, cut at %d: Len %d, Sum %x, want %x", words, n, cut, h.Len(), h.Sum(), want)
+				}
+			}
+		}
+	}
+}
+
+// P2.3: words that come to be 0 once more than one block is there.
+func TestWordsComeToNought(t *testing.T) {
+	h := laid([8]uint32{}, 64)
+	h.Write(some(64))
+	h.words = [8]uint32{}
+	h.Write([]byte("abc"))
+	if h.Len() != 131 || h.Sum() != digestFrom([8]uint32{}, 128, []byte("abc")) {
+		t.Errorf("Len %d, Sum %x", h.Len(), h.Sum())
+	}
+	h = laid([8]uint32{}, 69)
+	c := h.Copy()
+	c.Write([]byte("abc"))
+	behind := some(69)[64:]
+	if h.Len() != 69 || h.Sum() != digestFrom([8]uint32{}, 64, behind) {
+		t.Errorf("with a piece of a block: Len %d, Sum %x", h.Len(), h.Sum())
+	}
+	if c.Len() != 72 || c.Sum() != digestFrom([8]uint32{}, 64, append(behind, "abc"...)) {
+		t.Errorf("with a piece of a block, and more: Len %d, Sum %x", c.Len(), c.Sum())
 	}
 }
 
