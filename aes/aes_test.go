@@ -199,6 +199,21 @@ func TestSwap(t *testing.T) {
 	}
 }
 
+// P4.1, P4.2: the bytes swapped that blocks are hidden by are those of Swap,
+// though they are not looked for one by one; and they are undone.
+func TestSwapsAreSwap(t *testing.T) {
+	all := swaps()
+	back := undone(all)
+	for a := range 256 {
+		if all[a] != Swap(byte(a)) {
+			t.Errorf("%x swapped: %x, by Swap %x", a, all[a], Swap(byte(a)))
+		}
+		if back[all[a]] != byte(a) {
+			t.Errorf("%x swapped and back: %x", a, back[all[a]])
+		}
+	}
+}
+
 // P4.4: Times does not hang on order or grouping, and goes through exclusive or.
 func TestTimesIsProduct(t *testing.T) {
 	var times [256][256]byte
